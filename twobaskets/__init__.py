@@ -1,0 +1,1 @@
+"""Baskets on a rope, whole: the calls are answered by twobaskets.tower.answers."""
