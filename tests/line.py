@@ -99,3 +99,11 @@ def ask(*calls):
 def last(*calls):
     """The answer to the last of these calls."""
     return ask(*calls)[-1]
+
+
+def answers_of(tower, *calls):
+    """The answers but the begin's, which is to be taken."""
+    given = ask(tower, *calls)
+    if given[0] != [0]:
+        raise AssertionError("the tower is refused")
+    return given[1:]

@@ -1,6 +1,7 @@
 """What can be held of shared/LANGUAGE.md without reading it anew: files, sizes, signs, words and forms."""
 
 import ast
+import builtins
 import re
 import unittest
 from pathlib import Path
@@ -18,6 +19,10 @@ FORBIDDEN_FORMS = (
 PYTHONS_OWN = (
     "len", "range", "enumerate", "zip", "min", "max", "sum", "abs", "sorted", "reversed", "int", "str", "bool", "list",
     "tuple", "dict", "set", "isinstance", "any", "all", "divmod", "Exception", "ValueError",
+)
+PYTHONS_METHODS = (
+    "append", "clear", "copy", "count", "endswith", "extend", "find", "get", "index", "insert", "items", "join", "keys",
+    "pop", "remove", "replace", "reverse", "setdefault", "split", "startswith", "strip", "update", "values",
 )
 
 
@@ -65,6 +70,29 @@ class Language(unittest.TestCase):
             self.assertEqual(node.orelse, [])
         for name, node in nodes(ast.Assign):
             self.assertEqual(len(node.targets), 1)
+
+    def test_no_parameter_or_local_is_called_like_a_name_of_pythons_own(self):
+        given = [node.arg for name, node in nodes(ast.arg)]
+        given += [node.id for name, node in nodes(ast.Name) if isinstance(node.ctx, ast.Store)]
+        self.assertEqual([word for word in given if word in dir(builtins) or word.startswith("_")], [])
+
+    def test_names_of_a_files_top_are_bound_once(self):
+        for name, tree in trees():
+            bound = [node.name for node in tree.body if isinstance(node, (ast.FunctionDef, ast.ClassDef))]
+            for node in tree.body:
+                if isinstance(node, ast.Assign):
+                    bound += [target.id for target in node.targets]
+                    ast.literal_eval(node.value)
+            self.assertEqual(sorted(bound), sorted(set(bound)), name)
+
+    def test_methods_and_values_of_objects(self):
+        methods = {node.name for name, found in nodes(ast.ClassDef) for node in found.body if hasattr(node, "name")}
+        called = {node.func.attr for name, node in nodes(ast.Call) if isinstance(node.func, ast.Attribute)}
+        values = {node.attr for name, node in nodes(ast.Attribute) if isinstance(node.ctx, ast.Store)}
+        self.assertEqual(called - methods - set(PYTHONS_METHODS), set())
+        self.assertEqual(methods & values, set())
+        of_pythons_own = {word for kind in (str, int, list, dict, set, bytes, tuple) for word in dir(kind)}
+        self.assertEqual((methods | values) & of_pythons_own, {"__init__"})
 
     def test_names_that_are_read_are_bound_in_the_file_or_allowed(self):
         for name, tree in trees():

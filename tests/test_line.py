@@ -11,7 +11,9 @@ BUT_BEGIN = [
 ]
 WHOLE_LINE = line_of([
     turn(0), begin(10, 1, people(50) + stones(45)), turns(), fewest(), to(1), why(0, 1), turn(1), turn(9), turn(1, 0),
-    begin(301, 1, [[], [1], [1, 2, 3]]), to(0, 1), fewest(), to(),
+    begin(301, 1, [[], [1], [1, 2, 3]]), to(0, 1), fewest(), to(), line.comes(), line.least(), line.look(),
+    begin(4, 2, people(50) + stones(45)), line.follow(1), line.limit(400), line.limit(5), line.least(), line.comes(),
+    line.follow(3), line.follow(2), line.look(),
 ])
 
 
@@ -51,6 +53,15 @@ class WhatIsGivenBack(unittest.TestCase):
                 + [1, 0, 1, 1, 1, 5, 0, 1, 0, 2, 0, 1, 2, 1, 0]
             ),
             [1, 0, 3, 1, 1, 1, 6, 2, 1, 1, 2, 0, 1, 1, 45, 6, 2, 2, 0, 1, 1, 1, 1, 0],
+        )
+
+    def test_the_numbers_of_the_other_calls(self):
+        self.assertEqual(
+            answers(
+                [0, 2, 4, 1, 2, 2, 50, 1, 2, 45, 0, 6, 0, 0, 7, 0, 0, 9, 1, 1, 0, 8, 1, 10, 0, 9, 1, 2, 0, 10, 0, 0]
+                + [8, 1, 301, 0, 9, 1, 0, 0]
+            ),
+            [1, 0, 1, 2, 1, 5, 1, -6, 1, 4, 2, 1, 1, 9, 2, 10, 1, 50, 1, 45, 0, 1, 1, 1, -1, 1, -1],
         )
 
     def test_a_call_alone(self):

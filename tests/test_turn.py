@@ -1,14 +1,6 @@
 import unittest
 
-from tests.line import ask, begin, fewest, last, people, stones, to, turn, turns, why
-
-
-def answers_of(tower, *calls):
-    """The answers but the begin's, which is to be taken."""
-    given = ask(tower, *calls)
-    if given[0] != [0]:
-        raise AssertionError("the tower is refused")
-    return given[1:]
+from tests.line import answers_of, begin, fewest, last, people, stones, to, turn, turns, why
 
 
 class TurnIsMade(unittest.TestCase):

@@ -9,6 +9,10 @@ WHY = 2
 TURNS = 3
 FEWEST = 4
 TO = 5
+COMES = 6
+LEAST = 7
+LIMIT = 8
+FOLLOW = 9
 
 DONE = 0
 WRONG = -1
@@ -26,12 +30,8 @@ STONE = 0
 PERSON = 1
 
 
-class NotBuilt(Exception):
-    """A call that is not answered yet, once there is a tower."""
-
-
 class Tower:
-    """The things, which of them are above, and what the baskets and the limit allow."""
+    """The things, which of them are above behind the turns that were made, and what the baskets and the limit allow."""
 
     def __init__(self, limit, holds, things):
         self.limit = limit
@@ -40,6 +40,7 @@ class Tower:
         self.people = [number for number in range(len(things)) if things[number][1] == PERSON]
         self.rows = rows_of(len(things))
         self.above = tuple(range(len(things)))
+        self.made = 0
 
 
 class Line:
@@ -115,14 +116,18 @@ def person_among(tower, numbers):
     return len([number for number in numbers if number in tower.people]) > 0
 
 
+def needed_limit(tower, above, things):
+    """The least limit that lets these go, where the upper basket is the heavier one."""
+    return unlike(tower, above, things) if person_among(tower, things) else 0
+
+
 def verdict(tower, above, things):
     """DONE if a turn of these things can be made with just those above, else as what it is refused."""
     if overfull(tower, above, things):
         return TOO_MANY
-    difference = unlike(tower, above, things)
-    if difference <= 0:
+    if unlike(tower, above, things) <= 0:
         return NOT_HEAVIER
-    if difference > tower.limit and person_among(tower, things):
+    if needed_limit(tower, above, things) > tower.limit:
         return TOO_UNLIKE
     return DONE
 
@@ -130,6 +135,11 @@ def verdict(tower, above, things):
 def possible_rows(tower, above):
     """The turns that can be made with just those above, the first one first."""
     return [row for row in tower.rows if verdict(tower, above, row) == DONE]
+
+
+def rows_but_for_limit(tower, above):
+    """The turns that could be made with just those above if the limit were high enough."""
+    return [row for row in tower.rows if verdict(tower, above, row) in (DONE, TOO_UNLIKE)]
 
 
 def turned(tower, above, things):
@@ -156,6 +166,41 @@ def first_ways(tower):
                 waiting.append(behind)
         at += 1
     return ways
+
+
+def fewest_way(tower):
+    """The first of the shortest ways behind which all people are down; None if there is none."""
+    ways = first_ways(tower)
+    for above in ways:
+        if not person_among(tower, above):
+            return ways[above]
+    return None
+
+
+def least_limits(tower):
+    """For each row that could be above with some limit, the least with which there is a way to it.
+
+    Of the rows that wait, that with the least limit is gone on from: a way by another one needs no less, so what
+    is found of this row stands.
+    """
+    limits = {tower.above: 0}
+    waiting = [tower.above]
+    while len(waiting) > 0:
+        above = min(waiting, key=lambda each: limits[each])
+        waiting.remove(above)
+        for row in rows_but_for_limit(tower, above):
+            behind = turned(tower, above, row)
+            needed = max(limits[above], needed_limit(tower, above, row))
+            if behind not in limits:
+                waiting.append(behind)
+                limits[behind] = needed
+            limits[behind] = min(limits[behind], needed)
+    return limits
+
+
+def make_turn(tower, things):
+    tower.above = turned(tower, tower.above, things)
+    tower.made += 1
 
 
 def told_row(row):
@@ -198,7 +243,7 @@ def answer_turn(tower, things):
     if refusal != DONE:
         return [refusal]
     difference = unlike(tower, tower.above, things)
-    tower.above = turned(tower, tower.above, things)
+    make_turn(tower, things)
     return [difference]
 
 
@@ -214,11 +259,10 @@ def answer_turns(tower):
 
 
 def answer_fewest(tower):
-    ways = first_ways(tower)
-    for above in ways:
-        if not person_among(tower, above):
-            return told_way(ways[above])
-    return [NO_WAY]
+    way = fewest_way(tower)
+    if way is None:
+        return [NO_WAY]
+    return told_way(way)
 
 
 def answer_to(tower, things):
@@ -231,7 +275,46 @@ def answer_to(tower, things):
     return told_way(ways[wanted])
 
 
-def answer_on(tower, place, lists):
+def answer_comes(tower):
+    return [len(first_ways(tower))]
+
+
+def answer_least(tower):
+    limits = least_limits(tower)
+    enough = [limits[above] for above in limits if not person_among(tower, above)]
+    if len(enough) == 0 or min(enough) > MOST_LIMIT:
+        return [NO_WAY]
+    return [min(enough)]
+
+
+def answer_limit(tower, limit):
+    if limit > MOST_LIMIT:
+        return [WRONG]
+    before = tower.limit
+    tower.limit = limit
+    return [before]
+
+
+def answer_follow(tower, count):
+    way = fewest_way(tower)
+    if way is None:
+        return [NO_WAY]
+    if count == 0 or count > len(way):
+        return [WRONG]
+    for row in way[:count]:
+        make_turn(tower, row)
+    return told_row(tower.above)
+
+
+def answer_look(tower):
+    numbers = [tower.made, tower.limit, tower.holds]
+    for number in range(len(tower.weights)):
+        numbers.append(tower.weights[number])
+        numbers.append(PERSON if number in tower.people else STONE)
+    return numbers + told_row(tower.above)
+
+
+def answer_on(tower, place, numbers, lists):
     """What a call other than begin answers on a tower."""
     if place == TURN:
         return answer_turn(tower, lists[0])
@@ -243,7 +326,15 @@ def answer_on(tower, place, lists):
         return answer_fewest(tower)
     if place == TO:
         return answer_to(tower, lists[0])
-    raise NotBuilt(place)
+    if place == COMES:
+        return answer_comes(tower)
+    if place == LEAST:
+        return answer_least(tower)
+    if place == LIMIT:
+        return answer_limit(tower, numbers[0])
+    if place == FOLLOW:
+        return answer_follow(tower, numbers[0])
+    return answer_look(tower)
 
 
 class Baskets:
@@ -263,7 +354,7 @@ class Baskets:
             return self.begin(numbers[0], numbers[1], lists)
         if self.tower is None:
             return [NO_TOWER]
-        return answer_on(self.tower, place, lists)
+        return answer_on(self.tower, place, numbers, lists)
 
 
 def answers(calls):
